@@ -1,0 +1,43 @@
+"""How the tests write the calls of a line and read what is answered of each."""
+
+from surehopes.house import answers
+
+LARGEST = 4294967295
+
+
+def begins(facts, wanted):
+    return [0, facts, wanted]
+
+
+def act(needs, bars, *outcomes):
+    row = [number for outcome in outcomes for number in outcome]
+    return [1, needs, bars, len(row)] + row
+
+
+def goal(wanted):
+    return [2, wanted]
+
+
+def sure(state):
+    return [3, state]
+
+
+def joined(calls):
+    return [number for call in calls for number in call]
+
+
+def split(given):
+    parts = []
+    at = 0
+    while at < len(given):
+        parts.append(given[at + 1:at + 1 + given[at]])
+        at += 1 + given[at]
+    return parts
+
+
+def ask(*calls):
+    return split(answers(joined(calls)))
+
+
+def last(*calls):
+    return ask(*calls)[-1]
