@@ -1,11 +1,15 @@
 """One house: its facts, what is wanted, its acts, and the calls about it."""
 
-from surehopes.plans import Act, sure_levels, sure_rule, told_rule
+from surehopes.plans import Act, all_up_to, any_up_to, first_told, hopeful_ways
+from surehopes.plans import judged, levels_of, rule_of, told_rule, ways_of
 
 BEGINS = 0
 ACT = 1
 GOAL = 2
 SURE = 3
+HOPE = 4
+FROM = 5
+JUDGE = 6
 
 MOST_FACTS = 4
 MOST_ACTS = 6
@@ -22,6 +26,13 @@ def are_facts(some, facts):
 
 def paired(row):
     return [(row[at], row[at + 1]) for at in range(0, len(row), 2)]
+
+
+def level_and_rule(ways, wanted, serves, state):
+    levels = levels_of(ways, wanted, serves)
+    if state not in levels:
+        return [-6]
+    return [levels[state]] + told_rule(ways, rule_of(ways, levels, serves), state)
 
 
 class House:
@@ -56,24 +67,46 @@ class House:
         self.wanted = wanted
         return [0]
 
+    def all_ways(self):
+        return ways_of(self.acts, 1 << self.facts)
+
     def sure(self, state):
         if not are_facts(state, self.facts):
             return [-1]
-        levels = sure_levels(self.acts, self.wanted, 1 << self.facts)
-        if state not in levels:
-            return [-6]
-        rule = sure_rule(self.acts, levels)
-        return [levels[state]] + told_rule(self.acts, rule, state)
+        return level_and_rule(self.all_ways(), self.wanted, all_up_to, state)
+
+    def hope(self, state):
+        if not are_facts(state, self.facts):
+            return [-1]
+        hopeful = hopeful_ways(self.all_ways(), self.wanted)
+        return level_and_rule(hopeful, self.wanted, any_up_to, state)
+
+    def from_where(self):
+        ways = self.all_ways()
+        levels = levels_of(ways, self.wanted, all_up_to)
+        hopes_levels = levels_of(hopeful_ways(ways, self.wanted), self.wanted, any_up_to)
+        return [len(levels), len(hopes_levels)]
+
+    def judge(self, state, row):
+        # Only the state that is asked is held to the house's facts: a rule may tell of any number.
+        if len(row) % 2 == 1 or not are_facts(state, self.facts):
+            return [-1]
+        rule = first_told(paired(row), self.wanted)
+        return judged(self.all_ways(), self.wanted, rule, state)
 
 
 def end_of_call(calls, at):
     number = calls[at]
+    if number == FROM:
+        return at + 1
+    if number == GOAL or number == SURE or number == HOPE:
+        return at + 2
     if number == BEGINS:
         return at + 3
     if number == ACT:
         return at + 4 + calls[at + 3]
-    if number == GOAL or number == SURE:
-        return at + 2
+    if number == JUDGE:
+        return at + 3 + calls[at + 2]
     # How long an unknown call is can't be told, so nothing behind it could be read rightly.
     raise UnknownCall(f"there is no call {number}")
 
@@ -86,7 +119,13 @@ def answer_of(house, call):
         return house.act(call[1], call[2], call[4:])
     if number == GOAL:
         return house.goal(call[1])
-    return house.sure(call[1])
+    if number == SURE:
+        return house.sure(call[1])
+    if number == HOPE:
+        return house.hope(call[1])
+    if number == FROM:
+        return house.from_where()
+    return house.judge(call[1], call[3:])
 
 
 def answers(calls):

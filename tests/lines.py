@@ -22,6 +22,19 @@ def sure(state):
     return [3, state]
 
 
+def hope(state):
+    return [4, state]
+
+
+def from_where():
+    return [5]
+
+
+def judge(state, *pairs):
+    row = [number for pair in pairs for number in pair]
+    return [6, state, len(row)] + row
+
+
 def joined(calls):
     return [number for call in calls for number in call]
 

@@ -21,6 +21,7 @@ PYTHONS_METHODS = set(
     "items join keys ljust lower lstrip partition pop remove replace reverse rfind rjust rpartition rsplit rstrip "
     "setdefault split splitlines startswith strip update upper values zfill bit_length".split()
 )
+PYTHONS_ATTRIBUTES = {name for kind in (str, int, list, dict, set, bytes, tuple) for name in dir(kind)}
 WORDS_NOWHERE = (
     r"\b(type|typing|typing_extensions|enum|Enum|IntEnum|StrEnum|Flag|IntFlag|Generic|Protocol|ABC|ABCMeta|namedtuple"
     r"|NamedTuple|TypedDict|TYPE_CHECKING|abstractmethod)\b|dataclass|overload|contextmanager"
@@ -146,6 +147,22 @@ class Names(unittest.TestCase):
             if isinstance(node.func, ast.Attribute):
                 with self.subTest(file=file, line=node.lineno):
                     self.assertIn(node.func.attr, own | PYTHONS_METHODS)
+
+    def test_no_name_is_a_method_and_a_value(self):
+        methods = {each.name for file, node in nodes(ast.ClassDef) for each in node.body if hasattr(each, "name")}
+        values = {node.attr for file, node in nodes(ast.Attribute) if isinstance(node.ctx, ast.Store)}
+        self.assertEqual(methods & values, set())
+        self.assertEqual((methods | values) & PYTHONS_ATTRIBUTES, {"__init__"})
+
+    def test_no_local_is_called_like_a_class_or_an_import(self):
+        for path in FILES:
+            tree = tree_of(path)
+            taken = {node.name for node in ast.walk(tree) if isinstance(node, ast.ClassDef)}
+            taken |= {node.name for node in ast.walk(tree) if isinstance(node, ast.alias)}
+            inner = [node for node in ast.walk(tree) if isinstance(node, ast.FunctionDef)]
+            for function in inner:
+                with self.subTest(file=path.name, name=function.name):
+                    self.assertEqual((bound_names(function) - {function.name}) & taken, set())
 
 
 if __name__ == "__main__":
